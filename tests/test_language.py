@@ -1,0 +1,152 @@
+"""Checks of the package's own form: the rules of LANGUAGE.md that can be read off a file."""
+
+import ast
+import builtins
+import os
+import re
+import unittest
+
+import weandthey
+
+FOLDER = os.path.dirname(os.path.abspath(weandthey.__file__))
+FILES = sorted(name for name in os.listdir(FOLDER) if name != "__pycache__")
+
+INTERFACE = {
+    "errors.py": [
+        "PlayError", "BadText", "BadProgram", "BadGift", "BadNumber", "BadTurns", "BadRows", "NotParted",
+        "NotTheirs", "IsGiven", "NotGiven", "NoGift", "Lost", "Busy", "TooManyEdits", "NothingToUndo",
+        "NothingToRedo", "BadEdits", "BadEdit", "Rejected", "NoPlace", "NoVersion",
+    ],
+    "programs.py": ["program_error", "each_statement", "statement_at", "weight", "turned"],
+}
+
+BUILTINS = set(
+    "len range enumerate zip min max sum abs sorted reversed int str bool bytes list tuple dict set isinstance ord"
+    " repr any all divmod iter next super property staticmethod classmethod Exception ValueError TypeError KeyError"
+    " IndexError LookupError ZeroDivisionError ArithmeticError OverflowError RuntimeError NotImplementedError"
+    " AttributeError StopIteration NotImplemented".split()
+)
+BARRED_NAMES = set(
+    "register mro elements open input law version_info with_traceback add_note attrgetter breakpoint builtins compile"
+    " copyright credits delattr dir eval exec exit gc getattr globals hasattr help id importlib license locals"
+    " methodcaller os quit setattr type vars sys".split()
+)
+BARRED_WORDS = set(
+    "type typing typing_extensions enum Enum IntEnum StrEnum Flag IntFlag Generic Protocol ABC ABCMeta namedtuple"
+    " NamedTuple TypedDict TYPE_CHECKING abstractmethod".split()
+)
+NOT_ALLOWED = (ast.Global, ast.AsyncFunctionDef, ast.AsyncFor, ast.AsyncWith, ast.Await, ast.Import, ast.Div)
+TAKE_LISTS = ("sum", "min", "max", "sorted", "any", "all")
+
+
+def text_of(name):
+    with open(os.path.join(FOLDER, name), encoding="utf-8", newline="") as file:
+        return file.read()
+
+
+TREES = [ast.parse(text_of(name), name) for name in FILES if name.endswith(".py")]
+
+
+def bound_names(tree):
+    """Yield every name that a file gives to something."""
+    for node in ast.walk(tree):
+        if isinstance(node, (ast.FunctionDef, ast.ClassDef)):
+            yield node.name
+        elif isinstance(node, ast.arg):
+            yield node.arg
+        elif isinstance(node, ast.Name) and isinstance(node.ctx, ast.Store):
+            yield node.id
+        elif isinstance(node, ast.alias):
+            yield node.asname or node.name
+
+
+class TestLanguage(unittest.TestCase):
+    def test_files(self):
+        for name in FILES:
+            self.assertRegex(name, r"^[a-z_][a-z0-9_]*\.py$")
+        self.assertIn("__init__.py", FILES)
+
+    def test_characters_and_sizes(self):
+        for name in FILES:
+            with self.subTest(name):
+                text = text_of(name)
+                self.assertRegex(text, r"\A[ -~\n]*\Z")
+                self.assertLess(len(text.splitlines()), 400)
+                self.assertLessEqual(max(len(line) for line in text.splitlines()), 120)
+                self.assertFalse(BARRED_WORDS & set(re.findall(r"\w+", text)))
+                self.assertIsNone(re.search("dataclass|overload|contextmanager", text))
+
+    def test_functions_are_short(self):
+        for tree in TREES:
+            for node in ast.walk(tree):
+                if isinstance(node, ast.FunctionDef):
+                    self.assertLessEqual(node.end_lineno - node.lineno + 1, 40, node.name)
+
+    def test_interface_is_defined_in_its_file(self):
+        for name, wanted in INTERFACE.items():
+            tree = ast.parse(text_of(name))
+            defined = [node.name for node in tree.body if isinstance(node, (ast.FunctionDef, ast.ClassDef))]
+            self.assertEqual([word for word in wanted if word not in defined], [])
+
+    def test_module_level(self):
+        for tree in TREES:
+            names = []
+            for at, node in enumerate(tree.body):
+                if isinstance(node, ast.Expr):
+                    self.assertEqual(at, 0)
+                    self.assertIsInstance(node.value, ast.Constant)
+                elif isinstance(node, ast.Assign):
+                    names += [target.id for target in node.targets]
+                    self.assertEqual(len(node.targets), 1)
+                elif isinstance(node, ast.ImportFrom):
+                    names += [alias.name for alias in node.names]
+                else:
+                    self.assertIsInstance(node, (ast.FunctionDef, ast.ClassDef))
+                    names.append(node.name)
+            self.assertEqual(len(names), len(set(names)))
+
+    def test_imports(self):
+        for tree in TREES:
+            for node in ast.walk(tree):
+                if not isinstance(node, ast.ImportFrom):
+                    continue
+                self.assertEqual(node.level, 0)
+                package, _, module = node.module.partition(".")
+                self.assertEqual(package, "weandthey")
+                defined = list(bound_names(ast.parse(text_of(module + ".py"))))
+                for alias in node.names:
+                    self.assertIn(alias.name, defined)
+
+    def test_names(self):
+        for tree in TREES:
+            for name in bound_names(tree):
+                self.assertNotIn(name, BARRED_NAMES)
+                if not re.fullmatch("__[a-z]+__", name):
+                    self.assertFalse(name.startswith("_"), name)
+                    self.assertFalse(hasattr(builtins, name), name)
+
+    def test_builtins(self):
+        for tree in TREES:
+            for node in ast.walk(tree):
+                if isinstance(node, ast.Name) and hasattr(builtins, node.id):
+                    self.assertIn(node.id, BUILTINS)
+
+    def test_statements_and_expressions(self):
+        for tree in TREES:
+            for node in ast.walk(tree):
+                self.assertNotIsInstance(node, NOT_ALLOWED)
+                if isinstance(node, ast.Constant):
+                    self.assertNotIsInstance(node.value, (float, complex))
+                if isinstance(node, ast.Constant) and isinstance(node.value, str):
+                    self.assertNotIn("%", node.value)
+                if isinstance(node, ast.Compare):
+                    for sign, side in zip(node.ops, node.comparators):
+                        if isinstance(sign, (ast.Is, ast.IsNot)):
+                            self.assertIsInstance(side, ast.Constant)
+                            self.assertIn(side.value, (None, True, False))
+                if isinstance(node, ast.Call) and isinstance(node.func, ast.Name) and node.func.id in TAKE_LISTS:
+                    self.assertNotIsInstance(node.args[0], ast.GeneratorExp)
+
+
+if __name__ == "__main__":
+    unittest.main()

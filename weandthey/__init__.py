@@ -1,0 +1,1 @@
+"""Weandthey: programs over whole numbers in which we choose and others choose."""

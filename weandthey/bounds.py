@@ -1,0 +1,16 @@
+"""The bounds of programs, rows and benches."""
+
+MAX_NAME = 8
+MAX_TIMES = 8
+MAX_DEEP = 3
+MAX_NOTS = 2
+MAX_BY = 6
+MAX_PLACES = 24
+MAX_WEIGHT = 30
+MAX_CHOICES = 4
+MAX_RESTS = 2
+MAX_COMPARINGS = 2
+MAX_NEST = 3
+MAX_PERIOD = 1000000
+MAX_EDITS = 60
+BATCH = 20
