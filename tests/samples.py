@@ -181,6 +181,19 @@ def random_block(source, levels, most):
     return tuple(random_statement(source, levels) for _ in range(source.randrange(most + 1)))
 
 
+def random_program(source, fits=lambda program: True):
+    """Return a program with at least one statement for which fits is true."""
+    while True:
+        program = random_block(source, 3, 5)
+        if program and fits(program) and slow_error(program) is None:
+            return program
+
+
+def has_word(block, word):
+    """Return whether a statement of this word stands somewhere in a block."""
+    return any(statement[0] == word for statement in unrolled(block))
+
+
 def with_part_replaced(source, value):
     """Return the value with one part of it replaced, left out or doubled."""
     if not isinstance(value, tuple) or not value or source.randrange(5) == 0:

@@ -18,6 +18,15 @@ INTERFACE = {
         "NothingToRedo", "BadEdits", "BadEdit", "Rejected", "NoPlace", "NoVersion",
     ],
     "programs.py": ["program_error", "each_statement", "statement_at", "weight", "turned"],
+    "runs.py": ["run", "each_run"],
+    "worths.py": ["worth", "plan_of", "plan_holds"],
+    "lines.py": ["Lines"],
+}
+METHODS = {
+    "Lines": [
+        "__init__", "__call__", "__add__", "__sub__", "__neg__", "__mul__", "__and__", "__or__", "__eq__",
+        "moved", "under", "first_unlike", "first_above", "top", "bottom", "count_from",
+    ],
 }
 
 BUILTINS = set(
@@ -37,6 +46,7 @@ BARRED_WORDS = set(
 )
 NOT_ALLOWED = (ast.Global, ast.AsyncFunctionDef, ast.AsyncFor, ast.AsyncWith, ast.Await, ast.Import, ast.Div)
 TAKE_LISTS = ("sum", "min", "max", "sorted", "any", "all")
+CHANGING = ("append", "clear", "extend", "insert", "pop", "remove", "reverse", "setdefault", "update", "add", "discard")
 
 
 def text_of(name):
@@ -58,6 +68,41 @@ def bound_names(tree):
             yield node.id
         elif isinstance(node, ast.alias):
             yield node.asname or node.name
+
+
+def functions():
+    """Return a dict of the lists of all functions and methods of the package, by name."""
+    found = {}
+    for tree in TREES:
+        for node in ast.walk(tree):
+            if isinstance(node, ast.FunctionDef):
+                found.setdefault(node.name, []).append(node)
+    return found
+
+
+def called_by_operators():
+    """Return the list of the operators, of __eq__ and of every function and method that they call."""
+    by_name = functions()
+    waiting = [name for name in by_name if re.fullmatch("__[a-z]+__", name) and name != "__call__"]
+    # An operator may create an object; what its __init__ calls counts, but it sets its own attributes.
+    seen = set(waiting)
+    while waiting:
+        for function in by_name[waiting.pop()]:
+            for node in ast.walk(function):
+                name = node.id if isinstance(node, ast.Name) else node.attr if isinstance(node, ast.Attribute) else None
+                if name in by_name and name not in seen:
+                    seen.add(name)
+                    waiting.append(name)
+    return [function for name in sorted(seen - {"__init__"}) for function in by_name[name]]
+
+
+def made_here(function):
+    """Return the names of the lists that a function creates."""
+    found = set()
+    for node in ast.walk(function):
+        if isinstance(node, ast.Assign) and isinstance(node.value, (ast.List, ast.ListComp)):
+            found.update(target.id for target in node.targets if isinstance(target, ast.Name))
+    return found
 
 
 class TestLanguage(unittest.TestCase):
@@ -87,6 +132,42 @@ class TestLanguage(unittest.TestCase):
             tree = ast.parse(text_of(name))
             defined = [node.name for node in tree.body if isinstance(node, (ast.FunctionDef, ast.ClassDef))]
             self.assertEqual([word for word in wanted if word not in defined], [])
+
+    def test_methods_of_the_interface_stand_in_their_class(self):
+        classes = {node.name: node for tree in TREES for node in tree.body if isinstance(node, ast.ClassDef)}
+        for name, wanted in METHODS.items():
+            defined = [node.name for node in classes[name].body if isinstance(node, ast.FunctionDef)]
+            self.assertEqual([word for word in wanted if word not in defined], [])
+            self.assertEqual(len(defined), len(set(defined)))
+
+    def test_no_name_is_a_method_and_an_attribute(self):
+        methods, attributes = set(), set()
+        for tree in TREES:
+            for node in ast.walk(tree):
+                if isinstance(node, ast.ClassDef):
+                    methods.update(part.name for part in node.body if isinstance(part, ast.FunctionDef))
+                if isinstance(node, ast.Attribute) and isinstance(node.ctx, ast.Store):
+                    attributes.add(node.attr)
+        self.assertEqual(methods & attributes, set())
+
+    def test_operators_change_nothing(self):
+        for function in called_by_operators():
+            own = made_here(function)
+            parameters = {node.arg for node in ast.walk(function.args) if isinstance(node, ast.arg)}
+            for node in ast.walk(function):
+                where = (function.name, getattr(node, "lineno", None))
+                self.assertNotIsInstance(node, (ast.AugAssign, ast.Delete), where)
+                if isinstance(node, (ast.Attribute, ast.Subscript)) and isinstance(node.ctx, ast.Store):
+                    self.assertIsInstance(node, ast.Subscript, where)
+                    self.assertIn(node.value.id, own, where)
+                if isinstance(node, ast.Call) and isinstance(node.func, ast.Attribute) and node.func.attr in CHANGING:
+                    self.assertIn(node.func.value.id, own, where)
+                if isinstance(node, ast.Call) and isinstance(node.func, ast.Name):
+                    self.assertNotIn(node.func.id, parameters, where)
+
+    def test_eq_assigns_nothing(self):
+        for function in functions().get("__eq__", []):
+            self.assertEqual([type(node) for node in function.body], [ast.Return])
 
     def test_module_level(self):
         for tree in TREES:
@@ -139,6 +220,8 @@ class TestLanguage(unittest.TestCase):
                     self.assertNotIsInstance(node.value, (float, complex))
                 if isinstance(node, ast.Constant) and isinstance(node.value, str):
                     self.assertNotIn("%", node.value)
+                if isinstance(node, ast.Attribute):
+                    self.assertNotIn(node.attr, ("sort", "format", "args"))
                 if isinstance(node, ast.Compare):
                     for sign, side in zip(node.ops, node.comparators):
                         if isinstance(sign, (ast.Is, ast.IsNot)):
