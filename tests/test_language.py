@@ -21,6 +21,9 @@ INTERFACE = {
     "runs.py": ["run", "each_run"],
     "worths.py": ["worth", "plan_of", "plan_holds"],
     "lines.py": ["Lines"],
+    "tables.py": ["worth_of", "worth_holds"],
+    "verdicts.py": ["lost", "alike", "above"],
+    "papers.py": ["paper_of", "paper_holds"],
 }
 METHODS = {
     "Lines": [
@@ -46,6 +49,7 @@ BARRED_WORDS = set(
 )
 NOT_ALLOWED = (ast.Global, ast.AsyncFunctionDef, ast.AsyncFor, ast.AsyncWith, ast.Await, ast.Import, ast.Div)
 TAKE_LISTS = ("sum", "min", "max", "sorted", "any", "all")
+CHANGING_METHODS = ("__init__", "__call__", "__iadd__", "__isub__", "__setitem__")
 CHANGING = ("append", "clear", "extend", "insert", "pop", "remove", "reverse", "setdefault", "update", "add", "discard")
 
 
@@ -80,20 +84,39 @@ def functions():
     return found
 
 
+def local_names(function):
+    """Return the set of the names that a function gives to something of its own."""
+    found = {node.arg for node in ast.walk(function) if isinstance(node, ast.arg)}
+    return found | {node.id for node in ast.walk(function) if isinstance(node, ast.Name) and isinstance(node.ctx, ast.Store)}
+
+
+def names_used(function):
+    """Yield the names of all functions, methods and classes that a function may call."""
+    own = local_names(function)
+    for node in ast.walk(function):
+        if isinstance(node, ast.Name) and node.id not in own:
+            yield node.id
+        elif isinstance(node, ast.Attribute):
+            yield node.attr
+
+
 def called_by_operators():
-    """Return the list of the operators, of __eq__ and of every function and method that they call."""
+    """Return the list of the operators that change nothing, of __eq__ and the like, and of all that they call."""
     by_name = functions()
-    waiting = [name for name in by_name if re.fullmatch("__[a-z]+__", name) and name != "__call__"]
     # An operator may create an object; what its __init__ calls counts, but it sets its own attributes.
+    for tree in TREES:
+        for node in tree.body:
+            if isinstance(node, ast.ClassDef):
+                by_name[node.name] = [part for part in node.body if isinstance(part, ast.FunctionDef) and part.name == "__init__"]
+    waiting = [name for name in by_name if re.fullmatch("__[a-z]+__", name) and name not in CHANGING_METHODS]
     seen = set(waiting)
     while waiting:
         for function in by_name[waiting.pop()]:
-            for node in ast.walk(function):
-                name = node.id if isinstance(node, ast.Name) else node.attr if isinstance(node, ast.Attribute) else None
+            for name in names_used(function):
                 if name in by_name and name not in seen:
                     seen.add(name)
                     waiting.append(name)
-    return [function for name in sorted(seen - {"__init__"}) for function in by_name[name]]
+    return [function for name in sorted(seen) for function in by_name[name] if function.name != "__init__"]
 
 
 def made_here(function):

@@ -2,7 +2,7 @@
 
 from weandthey.errors import BadRows, NotParted
 from weandthey.stretches import are_parted, cells_of, columns_of, first_in, first_of, greatest_to, has_any, is_row
-from weandthey.stretches import later, least_from, low_order, many_in, pieces_of, rank, sooner
+from weandthey.stretches import later, least_from, many_in, pieces_of, rank, sooner
 
 # The low and high of a stretch without an integer.
 NOWHERE = (1, 0)
@@ -38,26 +38,33 @@ def reaching(low, high, form, value):
     return (low, sooner(high, (shift - value) // -slope))
 
 
-def joined(rows):
-    """Return the rows, all by one number, as a tuple, with one row in the place of neighbours that have one form."""
+def joined(pieces):
+    """Return the pieces, in the order of cells_of, as a tuple, with one in the place of neighbours that end alike."""
     out = []
-    for row in sorted(sorted(rows, key=low_order), key=lambda piece: piece[0]):
-        if out and out[-1][0] == row[0] and out[-1][4] == row[4]:
-            out[-1] = (row[0], row[1], out[-1][2], row[3], row[4])
+    for piece in pieces:
+        if out and out[-1][0] == piece[0] and out[-1][4] == piece[4]:
+            out[-1] = (piece[0], piece[1], out[-1][2], piece[3], piece[4])
         else:
-            out.append(row)
+            out.append(piece)
     return tuple(out)
+
+
+def cut(low, high, form):
+    """Return the (low, high) of that part of a stretch on which a form tells at least 0, and of the other part."""
+    return (reaching(low, high, form, 0), reaching(low, high, times(-1, form), 1))
 
 
 def extremes(one, other, greater):
     """Return the rows that tell the greater (or else the lesser) one of what two tuples of columns tell."""
     rows = []
     for rest, by, low, high, form, beside in cells_of(one, other):
-        above = reaching(low, high, minus(form, beside), 0)
-        below = reaching(low, high, minus(beside, form), 1)
-        for part, told in ((above, form if greater else beside), (below, beside if greater else form)):
-            if has_any(rest, by, part[0], part[1]):
-                rows.append((rest, by, part[0], part[1], told))
+        apart = minus(form, beside)
+        above, below = cut(low, high, apart)
+        parts = [(*above, form if greater else beside), (*below, beside if greater else form)]
+        # A rising difference is below 0 first.
+        for least, greatest, told in parts[::-1] if apart[0] > 0 else parts:
+            if has_any(rest, by, least, greatest):
+                rows.append((rest, by, least, greatest, told))
     return joined(rows)
 
 

@@ -65,6 +65,12 @@ def many_in(rest, by, low, high):
     return max(0, (greatest_to(rest, by, high) - least_from(rest, by, low)) // by + 1)
 
 
+def parts_by(rest, by, period):
+    """Return a list of (rest, by): all integers with one rest, parted so that each has one rest by the period."""
+    whole = common_multiple([by, period])
+    return [(number, whole) for number in range(rest, whole, by)]
+
+
 def rank(number):
     """Return how many integers come ahead of this one in the order of inputs."""
     return 2 * number - 1 if number > 0 else -2 * number
@@ -125,8 +131,19 @@ def low_order(piece):
     return (0, 0) if piece[2] is None else (1, piece[2])
 
 
+def by_one(piece):
+    """Return a piece about one integer with 1 as its by, any other piece as it is."""
+    rest, by, low, high = piece[:4]
+    if low is None or high is None or many_in(rest, by, low, high) > 1:
+        return piece
+    number = least_from(rest, by, low)
+    return (0, 1, number, number) + piece[4:]
+
+
 def none_meet(pieces):
     """Return whether no integer is in two of the pieces."""
+    # The by of a piece about one integer means nothing, and few bys are quickly compared.
+    pieces = [by_one(piece) for piece in pieces]
     ordered = sorted(sorted(pieces, key=low_order), key=lambda piece: piece[:2])
     # Of pieces with one rest and one by, in order, some meet only if two neighbours do.
     if any([meet(one, other) for one, other in zip(ordered, ordered[1:])]):
@@ -135,7 +152,10 @@ def none_meet(pieces):
     groups = [[one for one in ordered if one[1] == by] for by in bys]
     for at, group in enumerate(groups):
         for against in groups[at + 1:]:
-            if any([meet(one, other) for one in group for other in against]):
+            divisor = common_divisor(group[0][1], against[0][1])[0]
+            # Where a small by divides a great one, few pairs of many have one rest.
+            pairs = [(one, other) for one in group for other in against if (one[0] - other[0]) % divisor == 0]
+            if any([meet(one, other) for one, other in pairs]):
                 return False
     return True
 
@@ -164,15 +184,6 @@ def are_parted(pieces):
     if not fill_an_end([piece[1] for piece in pieces if piece[3] is None]):
         return False
     return fill_between(pieces) and none_meet(pieces)
-
-
-def by_one(row):
-    """Return a row about one integer with 1 as its by, any other row as it is."""
-    rest, by, low, high, form = row
-    if low is None or high is None or many_in(rest, by, low, high) > 1:
-        return row
-    number = least_from(rest, by, low)
-    return (0, 1, number, number, form)
 
 
 def columns_of(rows):
