@@ -24,12 +24,21 @@ INTERFACE = {
     "tables.py": ["worth_of", "worth_holds"],
     "verdicts.py": ["lost", "alike", "above"],
     "papers.py": ["paper_of", "paper_holds"],
+    "gifts.py": ["gifted", "fewest_gift"],
+    "texts.py": ["program_text", "parse_program"],
+    "benches.py": ["Bench", "WonBench"],
+    "consoles.py": ["Console"],
 }
 METHODS = {
     "Lines": [
         "__init__", "__call__", "__add__", "__sub__", "__neg__", "__mul__", "__and__", "__or__", "__eq__",
         "moved", "under", "first_unlike", "first_above", "top", "bottom", "count_from",
     ],
+    "Bench": [
+        "__init__", "__getitem__", "__setitem__", "__iter__", "__iadd__", "__isub__", "add", "drop", "change", "give", "take",
+        "give_fewest", "undo", "redo", "attempt", "verdict", "outcome", "told", "state", "edits", "__len__", "__str__", "__eq__",
+    ],
+    "Console": ["__init__", "execute"],
 }
 
 BUILTINS = set(
@@ -93,8 +102,10 @@ def local_names(function):
 def names_used(function):
     """Yield the names of all functions, methods and classes that a function may call."""
     own = local_names(function)
+    # A class that is only asked for by isinstance is not called.
+    asked = [node.args[1] for node in ast.walk(function) if isinstance(node, ast.Call) and getattr(node.func, "id", "") == "isinstance"]
     for node in ast.walk(function):
-        if isinstance(node, ast.Name) and node.id not in own:
+        if isinstance(node, ast.Name) and node.id not in own and node not in asked:
             yield node.id
         elif isinstance(node, ast.Attribute):
             yield node.attr

@@ -321,6 +321,12 @@ class TestPaperHolds(unittest.TestCase):
             for value in (lines, ("won", lines), ("won", lines.rows), (lines, pieces), ("won", (lines,)), ("lost", lines, ()), ("lost", 0, lines), ("won", (*pieces[:-1], (*pieces[-1][:4], lines)))):
                 self.assertIs(paper_holds(program, value), False)
 
+    def test_turns(self):
+        for turn in (-1, 2, -2, 99, True, False, None, "1", "we", (1,), [1], {}, ()):
+            self.assert_holds(False, BY_SIGN, ("won", ((0, 1, None, 0, (turn, ())), SIGNS[1])))
+            self.assert_holds(False, BY_SIGN, ("won", (SIGNS[0], (0, 1, 1, None, (turn, ())))))
+        self.assert_holds(True, BY_SIGN, ("won", (SIGNS[0], (0, 1, 1, None, (0, ())))))
+
     def test_parts_of_plans(self):
         program, (first, second) = WON["both hands"]
         for part in PARTS:

@@ -18,6 +18,8 @@ STATEMENTS = (("set", 3), ("pay", 2), ("if", 4), ("we", 3), ("they", 3), ("repea
 TESTS = (("less", 3), ("rest", 4), ("not", 2))
 EXPRESSIONS = (("plus", 3), ("minus", 3), ("times", 3))
 
+OTHER_HANDS = {"we": "they", "they": "we"}
+
 # All that kind_of returns.
 KINDS = ("set", "pay", "less", "rest", "we", "they", "repeat", "stop")
 
@@ -171,6 +173,11 @@ def rows_in(block, depth):
     return rows
 
 
+def size_of(block):
+    """Return how many places a block has."""
+    return len(rows_in(block, 0))
+
+
 def each_statement(program):
     """Yield (place, depth, statement) for each statement, in the order of the places."""
     for place, (depth, statement) in enumerate(rows_in(program, 0)):
@@ -190,17 +197,18 @@ def weight(program):
     return counted(program, KINDS)
 
 
+def rebuilt(word, statement, blocks):
+    """Return the statement with another word and a list of other blocks."""
+    kept = statement[1:len(statement) - len(blocks)]
+    return (word, *kept, *blocks)
+
+
 def turned_statement(statement):
     """Return the statement with both hands exchanged and what it pays taken off."""
     if statement[0] == "pay":
         return ("pay", ("times", -1, statement[1]))
-    blocks = [turned(block) for block in blocks_of(statement)]
-    if statement[0] == "we":
-        return ("they", *blocks)
-    if statement[0] == "they":
-        return ("we", *blocks)
-    kept = statement[:len(statement) - len(blocks)]
-    return (*kept, *blocks)
+    word = OTHER_HANDS.get(statement[0], statement[0])
+    return rebuilt(word, statement, [turned(block) for block in blocks_of(statement)])
 
 
 def turned(program):
