@@ -149,6 +149,25 @@ def full_program(source):
             return block
 
 
+def steep_program(source):
+    """Return a program at the bounds of choices, rests and comparings in which every fork sets a name to a form of its own."""
+    def form():
+        return ("plus", ("times", source.choice([-9, -7, -5, -3, -2, 2, 3, 5, 7, 9]), source.choice("na")), source.randint(-99, 99))
+
+    def settings():
+        return tuple((("set", source.choice("na"), form()),) for _ in range(2))
+    choices = [(source.choice(["we", "they"]), *settings()) for _ in range(4)]
+    rests = [when(rest(source.choice(["n", "a", ("plus", "n", "a")]), by, source.randrange(by)), *settings()) for by in (5, 6)]
+    comparings = [when(less(source.choice("na"), form()), pays(form()), pays(form())) for _ in range(2)]
+    parts = source.choice([choices + rests, rests + choices, choices[:2] + rests + choices[2:], choices[:2] + rests[:1] + choices[2:] + rests[1:]])
+    return (*parts, *comparings)
+
+
+def bound_programs(source, many):
+    """Return a list of programs at the bounds, those above and so many others of two sorts each."""
+    return FULL_PROGRAMS + [full_program(source) for _ in range(many)] + [steep_program(source) for _ in range(many)]
+
+
 def any_program(source):
     """Return a program of any sort."""
     pick = source.randrange(3)

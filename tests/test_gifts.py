@@ -4,7 +4,7 @@ import random
 import time
 import unittest
 
-from program_samples import FULL_PROGRAMS, PROGRAMS, all_programs, any_program, full_program, less, pays, rest, when
+from program_samples import all_programs, any_program, bound_programs, less, pays, rest, when
 from samples import STOP, random_program
 from weandthey.gifts import fewest_gift, gifted
 from weandthey.programs import each_statement, program_error
@@ -148,12 +148,13 @@ class TestFewestGift(unittest.TestCase):
 
     def test_time(self):
         source = random.Random(173)
-        programs = FULL_PROGRAMS + list(PROGRAMS.values()) + [full_program(source) for _ in range(60)]
+        programs = bound_programs(source, 40)
+        # Where all choices are theirs, there are the most gifts.
+        programs += [eval(repr(program).replace("'we'", "'they'")) for program in programs]
+        start = time.perf_counter()
         for program in programs:
-            for asked in (program, eval(repr(program).replace("'we'", "'they'"))):
-                start = time.perf_counter()
-                fewest_gift(asked)
-                self.assertLess(time.perf_counter() - start, 1)
+            fewest_gift(program)
+        self.assertLess((time.perf_counter() - start) / len(programs), 0.2)
 
 
 if __name__ == "__main__":

@@ -4,7 +4,7 @@ import time
 import unittest
 
 from line_samples import cut_otherwise, has_integer
-from program_samples import FAR, FULL_PROGRAMS, PROGRAMS, all_programs, any_program, full_program, less, pays, rest, when
+from program_samples import FAR, all_programs, any_program, bound_programs, less, pays, rest, steep_program, when
 from readings import SlowLines
 from samples import PARTS, STOP, deep_value, odd_values, with_part_replaced
 from weandthey.bounds import MAX_PERIOD
@@ -117,7 +117,7 @@ class TestPaperOf(unittest.TestCase):
     def test_every_kind(self):
         source = random.Random(160)
         seen = {"won": 0, "lost": 0}
-        for program in all_programs(source, 150):
+        for program in all_programs(source, 150) + [steep_program(source) for _ in range(40)]:
             seen[self.assert_paper(program)[0]] += 1
         self.assertGreater(min(seen.values()), 20)
 
@@ -350,14 +350,15 @@ class TestPaperHolds(unittest.TestCase):
 class TestTime(unittest.TestCase):
     def test_programs_at_the_bounds(self):
         source = random.Random(169)
-        for program in FULL_PROGRAMS + [PROGRAMS["four choices in a repeat"]] + [full_program(source) for _ in range(50)] + won_programs(source, 20):
-            start = time.perf_counter()
-            paper = paper_of(program)
-            held = paper_holds(program, paper)
-            taken = time.perf_counter() - start
-            self.assertIs(held, True)
-            # Some hundredths of a second are wanted; a busy machine may take longer.
-            self.assertLess(taken, 0.5)
+        programs = bound_programs(source, 50) + won_programs(source, 20)
+        start = time.perf_counter()
+        papers = [paper_of(program) for program in programs]
+        made = time.perf_counter()
+        held = [paper_holds(program, paper) for program, paper in zip(programs, papers)]
+        checked = time.perf_counter()
+        self.assertEqual(set(held), {True})
+        self.assertLess((made - start) / len(programs), 0.05)
+        self.assertLess((checked - made) / len(programs), 0.05)
 
 
 if __name__ == "__main__":

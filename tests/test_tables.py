@@ -4,7 +4,8 @@ import time
 import unittest
 
 from line_samples import PAIRS, crossings, cut_otherwise, has_integer
-from program_samples import FAR, FULL_PROGRAMS, PROGRAMS, all_programs, any_program, full_program, pays, rest, steps, when
+from program_samples import FAR, FULL_PROGRAMS, PROGRAMS, all_programs, any_program, bound_programs, full_program, pays, rest, steep_program, steps
+from program_samples import when
 from readings import SlowLines, slow_bottom, slow_runs, slow_top, slow_worth
 from samples import deep_value, odd_values, with_part_replaced
 from weandthey.bounds import MAX_PERIOD
@@ -99,6 +100,13 @@ class TestWorthOf(unittest.TestCase):
         source = random.Random(131)
         for _ in range(100):
             self.assert_worth(full_program(source), 40)
+
+    def test_steep_programs(self):
+        source = random.Random(143)
+        for _ in range(40):
+            program = steep_program(source)
+            self.assertIsNone(program_error(program))
+            self.assert_worth(program, 60)
 
     def test_against_all_runs(self):
         source = random.Random(132)
@@ -371,14 +379,15 @@ class TestWorthHolds(unittest.TestCase):
 class TestTime(unittest.TestCase):
     def test_programs_at_the_bounds(self):
         source = random.Random(142)
-        for program in FULL_PROGRAMS + [full_program(source) for _ in range(60)]:
-            start = time.perf_counter()
-            rows = worth_of(program).rows
-            held = worth_holds(program, rows)
-            taken = time.perf_counter() - start
-            self.assertIs(held, True)
-            # Some hundredths of a second are wanted; a busy machine may take longer.
-            self.assertLess(taken, 0.5)
+        programs = bound_programs(source, 60)
+        start = time.perf_counter()
+        tables = [worth_of(program).rows for program in programs]
+        made = time.perf_counter()
+        held = [worth_holds(program, rows) for program, rows in zip(programs, tables)]
+        checked = time.perf_counter()
+        self.assertEqual(set(held), {True})
+        self.assertLess((made - start) / len(programs), 0.05)
+        self.assertLess((checked - made) / len(programs), 0.05)
 
     def test_wrong_rows(self):
         program = FULL_PROGRAMS[0]

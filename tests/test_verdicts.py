@@ -3,7 +3,7 @@ import random
 import time
 import unittest
 
-from program_samples import FULL_PROGRAMS, all_programs, any_program, full_program, less, negated, pays, rest, steps, when
+from program_samples import all_programs, any_program, bound_programs, less, negated, pays, rest, steep_program, steps, when
 from readings import input_order
 from samples import STOP
 from weandthey.programs import program_error, turned
@@ -72,7 +72,8 @@ class TestVerdicts(unittest.TestCase):
         self.assertEqual((alike(one, other), above(one, other)), (alike(one, other), above(one, other)))
 
     def test_lost_of_every_kind(self):
-        for program in all_programs(random.Random(150), 250):
+        source = random.Random(150)
+        for program in all_programs(source, 250) + [steep_program(source) for _ in range(40)]:
             self.assert_lost(program)
             self.assertEqual(lost(program), lost(program + (STOP,)) if program_error(program + (STOP,)) is None else lost(program))
 
@@ -180,13 +181,12 @@ class TestVerdicts(unittest.TestCase):
 
 class TestTime(unittest.TestCase):
     def test_programs_at_the_bounds(self):
-        source = random.Random(154)
-        for program in FULL_PROGRAMS + [full_program(source) for _ in range(60)]:
-            start = time.perf_counter()
-            lost(program)
-            taken = time.perf_counter() - start
-            # Some hundredths of a second are wanted; a busy machine may take longer.
-            self.assertLess(taken, 0.5)
+        programs = bound_programs(random.Random(154), 60)
+        start = time.perf_counter()
+        found = [lost(program) for program in programs]
+        self.assertLess((time.perf_counter() - start) / len(programs), 0.05)
+        for program, number in zip(programs, found):
+            self.assertTrue(number is None or worth(program, number) < 0)
 
 
 if __name__ == "__main__":

@@ -55,7 +55,7 @@ def fewest_gift(program):
         for gift in gifts_from(theirs, many):
             given = gifted(program, gift)
             # A number on which one gift fails lets most others fail, too, and is quickly tried.
-            if any([worth(given, number) < 0 for number in failed]):
+            if any([worth(given, known) < 0 for known in failed]):
                 continue
             number = lost(given)
             if number is None:
